@@ -45,7 +45,7 @@ func same(a, b api.Node) bool {
 func right() []api.Node {
 	return []api.Node{
 		{}, {Kind: 1, Links: 1}, {Kind: 2, Mode: 0755, Links: 1}, {Kind: 3, Mode: 07777, Links: 2048, Size: 1, Blocks: []int{0}},
-		{Kind: 1, Mode: 0644, Links: 3, Size: 3, Blocks: []int{9}}, {Kind: 1, Mode: 1, Uid: math.MaxUint32, Gid: 1 << 31, Time: math.MaxInt, Links: 256, Size: 256, Blocks: []int{2047}},
+		{Kind: 1, Mode: 0644, Links: 3, Size: 3, Blocks: []int{9}}, {Kind: 1, Links: 1, Gid: math.MaxUint32}, {Kind: 1, Mode: 1, Uid: math.MaxUint32, Gid: 1 << 31, Time: math.MaxInt, Links: 256, Size: 256, Blocks: []int{2047}},
 		{Kind: 2, Links: 1, Size: 257, Blocks: []int{300, 5}}, {Kind: 1, Uid: 1, Gid: 2, Time: 3, Links: 4, Size: 14592, Blocks: blocks(57, 1000)}, {Kind: 1, Links: 1, Size: 14337, Blocks: blocks(57, 7)}, {Kind: 1, Links: 1, Size: 14336, Blocks: blocks(56, 7)}, {Kind: 1, Links: 1, Size: 512, Blocks: []int{4, 4}},
 	}
 }

@@ -141,7 +141,7 @@ func TestDecode(t *testing.T) {
 	if l, e := pax.Decode(""); len(l) != 0 || e != api.OK {
 		t.Errorf("nothing: %v, %d", l, e)
 	}
-	for _, s := range []string{"9 path=a", "9 path=ab", "8 path=a\n", "10 path=a\n", "9 path=a\n\n", "9 path=a\nx", "9 path=a\n9 path=b", " 9 path=a\n", "09 path=a\n", "010 path=a\n", "+9 path=a\n", "+10 path=a\n", "-9 path=a\n", "9  path=a\n", "10  path=a\n", "9\tpath=a\n", "9path=a\n", "path=a\n", "path", "\n", "0 \n", "1 \n", "2 \n", "3 \n", "0", "5", "1", "4 =\n", "5 =a\n", "5 a \n", "6 a=\x00", "6 k a\n", "7 k v=\n", "8 k\x00=v1\n", "7 k\n=v\n", "6 key\n", "5 k=v\n", "7 k=v\n", "99999999999999999999 k=v\n", "18446744073709551622 k=v\n", "9223372036854775807 k=v\n", "0x6 k=v\n", "6 k=v\n\x00", "\x00", "6_ k=v\n", "٦ k=v\n", "9 path=a\r", "6 k=v\r"} {
+	for _, s := range []string{"9 path=a", "9 path=ab", "8 path=a\n", "10 path=a\n", "9 path=a\n\n", "9 path=a\nx", "9 path=a\n9 path=b", " 9 path=a\n", "09 path=a\n", "010 path=a\n", "+9 path=a\n", "+10 path=a\n", "-9 path=a\n", "9  path=a\n", "10  path=a\n", "9\tpath=a\n", "9path=a\n", "path=a\n", "path", "\n", "0 \n", "1 \n", "2 \n", "3 \n", "0", "5", "1", "4 =\n", "5 =a\n", "5 a \n", "6 a=\x00", "6 k a\n", "7 k v=\n", "8 k\x00=v1\n", "7 k\n=v\n", "6 key\n", "5 k=v\n", "7 k=v\n", "99999999999999999999 k=v\n", "18446744073709551622 k=v\n", "9223372036854775807 k=v\n", "0x6 k=v\n", "6 k=v\n\x00", "\x00", "6_ k=v\n", "٦ k=v\n", "9 path=a\r", "6 k=v\r", "09 k=abc\n\n"} {
 		if l, e := pax.Decode(s); e != api.ErrForm || len(l) != 0 {
 			t.Errorf("%q: %v, %d", s, l, e)
 		}

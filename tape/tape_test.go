@@ -278,6 +278,7 @@ func TestReadRecords(t *testing.T) {
 		for _, value := range []string{"", "x", "-1", "+1", "1.5", " 1", "1 ", "0x1", "1_0", "1000000000000000000", strings.Repeat("0", 19), "١"} {
 			for _, flag := range []byte("xg") {
 				refuse(t, key+" "+value, more(t, flag, pair(key, value))+a("hi")+z, api.ErrForm)
+				refuse(t, key+" "+value+", no bytes", more(t, flag, pair(key, value))+a("")+z, api.ErrForm)
 			}
 		}
 	}
@@ -316,6 +317,7 @@ func TestReadBlocks(t *testing.T) {
 	refuse(t, "no end", a, api.ErrForm)
 	refuse(t, "a half end", a+zeros(512), api.ErrForm)
 	refuse(t, "a second block that isn't blank", a+zeros(512)+a+z, api.ErrForm)
+	refuse(t, "a second block that isn't blank, bytes 0 behind it", a+zeros(512)+"x"+zeros(511)+z, api.ErrForm)
 	refuse(t, "bytes behind", a+z+"\x01", api.ErrForm)
 	refuse(t, "bytes far behind", a+z+zeros(2000)+"x", api.ErrForm)
 	refuse(t, "an archive behind", a+z+a+z, api.ErrForm)
