@@ -210,7 +210,7 @@ func TestErrors(t *testing.T) {
 		l          []api.Member
 		in, up, re api.Errno
 	}{
-		{"a database that may not be", wrong, taken, nil, api.ErrArg, api.ErrArg, api.ErrArg},
+		{"a database that may not be", wrong, taken, l, api.ErrArg, api.ErrArg, api.ErrArg},
 		{"it is there", mine, nil, nil, api.ErrThere, api.ErrArg, api.OK},
 		{"it isn't there", base(nil, manifest("o", "1")), nil, nil, api.ErrArg, api.ErrMissing, api.ErrMissing},
 		{"32 packages", full, taken, nil, api.ErrLong, api.ErrMissing, api.ErrMissing},
@@ -282,6 +282,19 @@ func TestUpgradePath(t *testing.T) {
 		got, behind, e = plan.Remove(b, c.tree, "n")
 		check(t, fmt.Sprint("remove ", i), got, c.want, behind, owner.Without(b, "n"), e, c.e)
 	}
+}
+
+// P22.2, P22.3: all that goes, in order, config files that were changed among it.
+func TestGoes(t *testing.T) {
+	n := manifest("n", "1", conf("a", "1"), file("b", "1"), conf("c", "1"), link("d", "1"), conf("e", "1"), file("f", "1"))
+	b := base(nil, n)
+	is := tree(isFile("a", "2"), isFile("b", "2"), isFile("c", "2"), isLink("d", "2"), isFile("e", "1"), isFile("f", "1"))
+	want := steps(rename("a", "a.save"), cut("b"), rename("c", "c.save"), cut("d"), cut("e"), cut("f"))
+	got, behind, e := plan.Remove(b, is, "n")
+	check(t, "remove", got, want, behind, api.Base{}, e, api.OK)
+	m, l := pack("n", "2", file("z", "1"), file("zz", "1"))
+	got, behind, e = plan.Upgrade(b, is, m, l)
+	check(t, "upgrade", got, append(want, write(file("z", "1")), write(file("zz", "1"))), behind, base(nil, m), e, api.OK)
 }
 
 // P22.2: paths that others have.
