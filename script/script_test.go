@@ -277,6 +277,14 @@ func TestRunLong(t *testing.T) {
 	if got, e := script.Run(strings.Repeat("\n", 1<<19) + "x"); got != "" || e != api.ErrLong {
 		t.Errorf("one line more: %d bytes, %d", len(got), e)
 	}
+	// And by bytes: ok has three.
+	short := strings.Repeat("\n", 1<<19-1)
+	if got, e := script.Run(short + "key 00\nkey 00\n"); len(got) != 4<<20-2 || e != api.OK {
+		t.Errorf("two bytes less: %d bytes, %d", len(got), e)
+	}
+	if got, e := script.Run(short + "key 00\nkey 00\nkey 00\n"); got != "" || e != api.ErrLong {
+		t.Errorf("one byte more: %d bytes, %d", len(got), e)
+	}
 	big := "new 2048\nwrite a 0644 " + strings.Repeat("ff", 14592) + "\n"
 	if got, e := script.Run(big + strings.Repeat("tree\n", 143)); e != api.OK || len(got) != 6+143*(len("file 0644  a\nok\n")+2*14592) {
 		t.Errorf("%d bytes, %d", len(got), e)

@@ -236,7 +236,6 @@ func (v *view) wipe(node int) {
 		v.img[at] = blank()
 	}
 	v.nodes[node].Blocks = nil
-	v.nodes[node].Size = 0
 }
 
 // save writes a node's sector.
@@ -297,7 +296,6 @@ func (v *view) create(dir int, name string, x api.Node, data string) api.Errno {
 	if node == len(v.nodes) {
 		return api.ErrSpace
 	}
-	x.Links = 1
 	v.nodes[node] = x
 	e := v.set(node, data)
 	if e != api.OK {
