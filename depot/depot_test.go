@@ -437,3 +437,42 @@ func TestFull(t *testing.T) {
 		t.Errorf("%d packages: %d", n, e)
 	}
 }
+
+// filling is a package that brings a database's text to so many bytes.
+func filling(t *testing.T, b api.Base, size int) string {
+	t.Helper()
+	for n := 1; n < 64; n++ {
+		var l []part
+		for i := 0; i < n; i++ {
+			l = append(l, link(fmt.Sprintf("z%02d", i), strings.Repeat("t", 200)))
+		}
+		for long := 1; long <= 200; long++ {
+			l[n-1] = link(l[n-1].x.Path, strings.Repeat("t", long))
+			m, members := manifest("z", "1", l...)
+			text, _ := owner.Print(owner.Add(b, m, nil))
+			if len(text) == size {
+				return build(1, m, members)
+			}
+		}
+	}
+	t.Fatalf("no package brings the text to %d bytes", size)
+	return ""
+}
+
+// P24.2: the database's text may have as many bytes as a file, and not one more.
+func TestFullText(t *testing.T) {
+	d := open(t, 2048)
+	for n := 0; n < 3; n++ {
+		var l []part
+		for i := 0; i < 21; i++ {
+			l = append(l, link(fmt.Sprintf("%d-%02d", n, i), strings.Repeat("t", 200)))
+		}
+		all(t, d, install(pack(fmt.Sprintf("p%d", n), "1", l...)))
+	}
+	b, _ := d.Packs()
+	refuse(t, d, install(filling(t, b, api.MaxFile+1)), api.ErrSpace)
+	all(t, d, install(filling(t, b, api.MaxFile)))
+	// An upgrade may bring it there, too.
+	all(t, d, upgrade(filling(t, b, api.MaxFile-1)))
+	refuse(t, d, upgrade(filling(t, b, api.MaxFile+1)), api.ErrSpace)
+}

@@ -87,12 +87,12 @@ func TestTable(t *testing.T) {
 		[2]string{"key " + keyOf(1), "ok"}, [2]string{"new 200", "ok"}, [2]string{"tree", "ok"}, [2]string{"packs", "ok"}, [2]string{"audit", "ok"},
 		[2]string{"install " + a, "ok"}, [2]string{"install " + a, "error 17"}, [2]string{"packs", "a 1.0 4 / ok"}, [2]string{"owner etc/c", "a / ok"}, [2]string{"owner etc", "error 5"}, [2]string{"owner", "error 2"},
 		[2]string{"tree", "file 0644 78 bin / dir 0644 etc / file 0644 6f6e65 etc/c / link l bin / ok"},
-		[2]string{"write etc/c 0600 ", "ok"}, [2]string{"delete bin", "ok"}, [2]string{"delete l", "ok"}, [2]string{"link l /x//y", "ok"}, [2]string{"link bin z", "ok"},
-		[2]string{"audit", "2 bin / 3 etc/c / 3 l / ok"}, [2]string{"tree", "link bin z / dir 0644 etc / file 0600  etc/c / link l /x//y / ok"},
+		[2]string{"write etc/c 0600 00", "ok"}, [2]string{"delete bin", "ok"}, [2]string{"delete l", "ok"}, [2]string{"link l /x//y", "ok"}, [2]string{"link bin z", "ok"},
+		[2]string{"audit", "2 bin / 3 etc/c / 3 l / ok"}, [2]string{"tree", "link bin z / dir 0644 etc / file 0600 00 etc/c / link l /x//y / ok"},
 		[2]string{"delete bin", "ok"}, [2]string{"audit", "1 bin / 3 etc/c / 3 l / ok"},
-		[2]string{"upgrade " + pack("a", "2", nil, "etc\n/", "etc/c\n!two"), "ok"}, [2]string{"packs", "a 2 2 / ok"}, [2]string{"tree", "dir 0644 etc / file 0600  etc/c / file 0644 74776f etc/c.new / ok"},
-		[2]string{"install " + pack("ab", "1", nil), "ok"}, [2]string{"packs", "a 2 2 / ab 1 0 / ok"},
-		[2]string{"remove ab", "ok"}, [2]string{"remove a", "ok"}, [2]string{"remove a", "error 18"}, [2]string{"upgrade " + a, "error 18"}, [2]string{"tree", "dir 0644 etc / file 0644 74776f etc/c.new / file 0600  etc/c.save / ok"},
+		[2]string{"upgrade " + pack("a", "2", nil, "etc\n/", "etc/c\n!two"), "ok"}, [2]string{"packs", "a 2 2 / ok"}, [2]string{"tree", "dir 0644 etc / file 0600 00 etc/c / file 0644 74776f etc/c.new / ok"},
+		[2]string{"install " + pack("ab", "1", nil, "e\n."), "ok"}, [2]string{"packs", "a 2 2 / ab 1 1 / ok"}, [2]string{"tree", "file 0644  e / dir 0644 etc / file 0600 00 etc/c / file 0644 74776f etc/c.new / ok"},
+		[2]string{"remove ab", "ok"}, [2]string{"remove a", "ok"}, [2]string{"remove a", "error 18"}, [2]string{"upgrade " + a, "error 18"}, [2]string{"tree", "dir 0644 etc / file 0644 74776f etc/c.new / file 0600 00 etc/c.save / ok"},
 		[2]string{"delete etc", "error 8"}, [2]string{"delete etc/c.new", "ok"}, [2]string{"delete etc/c.save", "ok"}, [2]string{"delete etc", "ok"}, [2]string{"tree", "ok"},
 		[2]string{"mkdir é 7777", "ok"}, [2]string{"mkdir é/b 0000", "ok"}, [2]string{"write é/b 0000 00", "error 7"}, [2]string{"tree", "dir 7777 é / dir 0000 é/b / ok"},
 		[2]string{"mkdir .holdall/x 0700", "error 19"}, [2]string{"write / 0700 00", "error 4"}, [2]string{"link x \xff", "error 4"}, [2]string{"install ", "error 2"}, [2]string{"install 00", "error 2"},
@@ -103,7 +103,7 @@ func TestTable(t *testing.T) {
 func TestCrash(t *testing.T) {
 	c := script.Open()
 	talk(t, c,
-		[2]string{"new 100", "ok"}, [2]string{"recover", "ok"}, [2]string{"write a 0600 01", "ok"}, [2]string{"crash  any", "ok"}, [2]string{"tree", "error 11"}, [2]string{"packs", "error 11"}, [2]string{"audit", "error 11"}, [2]string{"owner a", "error 11"}, [2]string{"write b 0600 01", "error 11"}, [2]string{"remove a", "error 11"},
+		[2]string{"new 100", "ok"}, [2]string{"recover", "ok"}, [2]string{"write a 0600 01", "ok"}, [2]string{"crash 00 any", "ok"}, [2]string{"tree", "error 11"}, [2]string{"packs", "error 11"}, [2]string{"audit", "error 11"}, [2]string{"owner a", "error 11"}, [2]string{"write b 0600 01", "error 11"}, [2]string{"remove a", "error 11"},
 		[2]string{"batch", "ok"}, [2]string{"remove a", "ok"}, [2]string{"end", "error 11"},
 		[2]string{"recover", "ok"}, [2]string{"tree", "file 0600 01 a / ok"}, [2]string{"recover", "ok"},
 		// Two operations: a list of places and a sector of what is written; then the power is off.
@@ -112,9 +112,9 @@ func TestCrash(t *testing.T) {
 	)
 	// A command that changes its node and its sector: list, two sectors, flush, end, flush; then it stands, if what is loose is kept.
 	for operations := 0; operations < 12; operations++ {
-		for _, fates := range []string{"", "01010101", "00010001"} {
+		for _, fates := range []string{"00", "01010101", "00010001"} {
 			c := script.Open()
-			same(t, c, "ok", "new 40", "write a 0600 01", fmt.Sprintf("crash  %d", operations), "recover")
+			same(t, c, "ok", "new 40", "write a 0600 01", fmt.Sprintf("crash 00 %d", operations), "recover")
 			told := c.Do("write a 0600 02")
 			same(t, c, "ok", "crash "+fates+" any", "recover")
 			got := c.Do("tree")
@@ -129,10 +129,10 @@ func TestCrash(t *testing.T) {
 // P25.1: lines that are none.
 func TestForm(t *testing.T) {
 	c := script.Open()
-	for _, s := range []string{"", " ", "tree", "packs", "audit", "owner a", "recover", "crash  any", "batch", "end", "write a 0644 00", "mkdir a 0755", "link a b", "delete a", "install 00", "upgrade 00", "remove a", "nonsense"} {
+	for _, s := range []string{"", " ", "tree", "packs", "audit", "owner a", "recover", "crash 00 any", "batch", "end", "write a 0644 00", "mkdir a 0755", "link a b", "delete a", "install 00", "upgrade 00", "remove a", "nonsense"} {
 		same(t, c, "error 2", s)
 	}
-	same(t, c, "ok", "new 100", "key ", "key 00")
+	same(t, c, "ok", "new 100", "key 00")
 	for _, s := range []string{
 		"", " ", "  ", "Tree", "tree ", " tree", "tree x", "packs x", "audit ", "recover x", "recover ", "batch x", "end ", "end x", "owner", "owner a b", "tree\n", "tree\t",
 		"key", "key 0", "key 0G", "key 00 00", "key AB", "new", "new x", "new 0100", "new 00", "new +100", "new -1", "new 100 ", "new 100 1", "new 10000000", "new 1e2", "new ", "new ١",
@@ -183,7 +183,7 @@ func TestKeys(t *testing.T) {
 		same(t, c, "ok", "key "+keyOf(byte(9+i)))
 	}
 	same(t, c, "ok", "key "+keyOf(1))
-	same(t, c, "error 2", "key "+keyOf(2), "key ", "key zz")
+	same(t, c, "error 2", "key "+keyOf(2), "key 00", "key zz")
 	same(t, c, "ok", "new 100", a)
 	c = script.Open()
 	same(t, c, "ok", "new 100")

@@ -319,7 +319,7 @@ func random(r *rand.Rand) step {
 		}
 		return paths[r.Intn(n)]
 	}
-	s := api.Step{Path: p(), Target: p(), Mode: r.Intn(010000), Uid: r.Intn(1 << 32), Gid: r.Intn(1 << 32), Time: r.Int()}
+	s := api.Step{Path: p(), Target: paths[r.Intn(len(paths)-2)], Mode: r.Intn(010000), Uid: r.Intn(1 << 32), Gid: r.Intn(1 << 32), Time: r.Int()}
 	if r.Intn(40) == 0 {
 		l := wrongSteps()
 		l[r.Intn(len(l))](&s)
