@@ -406,3 +406,22 @@ func TestNewMemory(t *testing.T) {
 		t.Error("the package was changed")
 	}
 }
+
+// P1: commands of any kind, with any bytes, end without a panic; what is refused has changed nothing.
+func TestAnything(t *testing.T) {
+	r := rand.New(rand.NewSource(3))
+	d := open(t, 100)
+	good := pack("a", "1", dir("d"), conf("d/f", "1"))
+	texts := []string{"", "a", "d", "d/f", "/", "..", ".holdall/base", "\xff", strings.Repeat("x", 300), good, good[:74], "HOLD1\n" + strings.Repeat("\xff", 80)}
+	for i := 0; i < 1500; i++ {
+		text := func() string { return texts[r.Intn(len(texts))] }
+		c := api.Command{Kind: r.Intn(12) - 1, Pack: text(), Name: text(), Path: text(), Data: text(), Mode: r.Intn(8192) - 1024}
+		for n := r.Intn(10); n > 0 && c.Kind == api.DoBatch; n-- {
+			c.All = append(c.All, api.Command{Kind: r.Intn(6), Pack: text(), Name: text()})
+		}
+		was := stands(t, d)
+		if e := d.Do(c); e != api.OK && stands(t, d) != was {
+			t.Fatalf("%d, but something has changed", e)
+		}
+	}
+}

@@ -127,17 +127,12 @@ func readRule(words []string) (api.Rule, bool) {
 	return api.Rule{}, false
 }
 
-// readMode is the mode of four octal digits.
+// readMode is the mode of four octal digits: written again they must be the same.
 func readMode(s string) (int, bool) {
-	if len(s) != modeDigits {
+	n, e := octal.Get(s)
+	again, whole := octal.Octal(n, modeDigits)
+	if e != api.OK || !whole || again != s {
 		return 0, false
-	}
-	n := 0
-	for i := 0; i < len(s); i++ {
-		if s[i] < '0' || s[i] > '7' {
-			return 0, false
-		}
-		n = n*8 + int(s[i]-'0')
 	}
 	return n, true
 }

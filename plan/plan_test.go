@@ -448,3 +448,37 @@ func TestNewMemory(t *testing.T) {
 		t.Error("something was changed that was handed in")
 	}
 }
+
+// P1: raw manifests, trees and members of any kind end without a panic, and what is refused has nothing beside it.
+func TestAnything(t *testing.T) {
+	texts := []string{"", "a", "/", "a/b", "..", ".holdall", "\xff", strings.Repeat("x", 300)}
+	mine := base([]string{"a"}, manifest("a", "1", dir("a"), conf("a/b", "1")))
+	for kind := -2; kind < 8; kind++ {
+		for _, where := range texts {
+			m := api.Manifest{Name: "a", Entries: []api.Entry{{Kind: kind, Mode: -1, Path: where}, {Kind: kind, Path: where, Target: where}, {Kind: -kind, Path: "a"}}}
+			for n := 0; n < 5; n++ {
+				members := make([]api.Member, n)
+				for _, is := range [][]api.Stat{nil, {{Path: where, Kind: kind}}, {{Path: "a", Kind: kind}, {Path: "a/b", Kind: kind}}} {
+					for _, b := range []api.Base{{}, mine, {Packs: []api.Manifest{m}}, {Dirs: []api.Shared{{Path: where}}}} {
+						for i := 0; i < 3; i++ {
+							var got []api.Step
+							var behind api.Base
+							var e api.Errno
+							switch i {
+							case 0:
+								got, behind, e = plan.Install(b, is, m, members)
+							case 1:
+								got, behind, e = plan.Upgrade(b, is, m, members)
+							case 2:
+								got, behind, e = plan.Remove(b, is, where)
+							}
+							if e != api.OK && (len(got) > 0 || told(behind) != told(api.Base{})) {
+								t.Fatalf("%d: something beside an error", e)
+							}
+						}
+					}
+				}
+			}
+		}
+	}
+}
