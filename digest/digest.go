@@ -50,7 +50,6 @@ func filling(n int) string {
 	return string(b)
 }
 
-// mix brings a block into the eight words.
 func mix(h [8]uint32, s string) [8]uint32 {
 	w := widen(s)
 	v := h

@@ -39,10 +39,8 @@ func sign(op int) string {
 	return ""
 }
 
-// line is words with single blanks between, and an LF.
 func line(words ...string) string { return strings.Join(words, " ") + "\n" }
 
-// ruleLines are those of needs, or of clashes.
 func ruleLines(word string, l []api.Rule) string {
 	s := ""
 	for _, r := range l {
@@ -55,7 +53,6 @@ func ruleLines(word string, l []api.Rule) string {
 	return s
 }
 
-// entryLine is an entry's.
 func entryLine(x api.Entry) string {
 	mode, _ := octal.Octal(x.Mode, modeDigits)
 	switch x.Kind {
@@ -112,7 +109,6 @@ func rank(said any) int {
 	return rankNone
 }
 
-// readRule is the rule of the words behind needs or clashes.
 func readRule(words []string) (api.Rule, bool) {
 	switch len(words) {
 	case 1:
@@ -137,7 +133,6 @@ func readMode(s string) (int, bool) {
 	return n, true
 }
 
-// readThing is the entry of a line's words.
 func readThing(words []string) (api.Entry, bool) {
 	if words[0] == wordLink {
 		if len(words) != 3 {

@@ -28,7 +28,6 @@ func (n note) of(l []api.Pair, key string) note {
 	return n
 }
 
-// take brings records in.
 func (n *notes) take(l []api.Pair) {
 	n.path = n.path.of(l, keyPath)
 	n.target = n.target.of(l, keyTarget)
@@ -75,10 +74,8 @@ type reader struct {
 	members []api.Member
 }
 
-// blank tells whether s is bytes 0.
 func blank(s string) bool { return strings.Trim(s, "\x00") == "" }
 
-// block is the next whole block.
 func (r *reader) block() (string, api.Errno) {
 	if len(r.text)-r.at < api.Block {
 		return "", api.ErrForm
@@ -100,7 +97,6 @@ func (r *reader) bytes(n int) (string, api.Errno) {
 	return s, api.OK
 }
 
-// records takes an extended header.
 func (r *reader) records(h api.Header) api.Errno {
 	if h.Size > api.MaxBytes {
 		return api.ErrLong
@@ -124,7 +120,6 @@ func (r *reader) records(h api.Header) api.Errno {
 	return api.OK
 }
 
-// kind is that of a flag.
 func kind(flag byte) (int, api.Errno) {
 	switch flag {
 	case flagFile, 0:
@@ -139,7 +134,6 @@ func kind(flag byte) (int, api.Errno) {
 	return 0, api.ErrForm
 }
 
-// data are the bytes of a member.
 func (r *reader) data(h api.Header, kind int, n notes) (string, api.Errno) {
 	if kind != api.KindFile {
 		return "", api.OK
@@ -154,7 +148,6 @@ func (r *reader) data(h api.Header, kind int, n notes) (string, api.Errno) {
 	return r.bytes(size)
 }
 
-// name is a member's path.
 func name(h api.Header, kind int, n notes) string {
 	s := h.Name
 	if h.Prefix != "" {

@@ -18,7 +18,6 @@ type view struct {
 // root is the root's node.
 const root = 0
 
-// blank is a sector of bytes 0.
 func blank() string { return strings.Repeat("\x00", api.SectorSize) }
 
 // sized tells whether there are as many sectors as may be, and each of its size.
@@ -34,7 +33,6 @@ func sized(img []string) bool {
 	return true
 }
 
-// readNodes is the nodes that the first sectors have.
 func readNodes(img []string) ([]api.Node, bool) {
 	var l []api.Node
 	for _, s := range img[:inode.Nodes(len(img))] {
@@ -61,7 +59,6 @@ func (v *view) apart() bool {
 	return true
 }
 
-// bytes are a node's.
 func (v *view) bytes(node int) string {
 	var b []byte
 	for _, at := range v.nodes[node].Blocks {
@@ -70,7 +67,6 @@ func (v *view) bytes(node int) string {
 	return string(b[:v.nodes[node].Size])
 }
 
-// below is the path of a name in a directory.
 func below(where, name string) string {
 	if where == "" {
 		return name
@@ -86,6 +82,7 @@ func (v *view) met(dir int, where string, depth int, counts []int) bool {
 	}
 	for _, p := range names {
 		at := below(where, p.Name)
+		// The bound on parts ends the way down, whatever the bytes say.
 		if !path.Part(p.Name) || depth >= api.MaxParts || len(at) > api.MaxPath {
 			return false
 		}
@@ -132,13 +129,11 @@ func open(img []string) (*view, bool) {
 	return v, true
 }
 
-// names are a directory's.
 func (v *view) names(dir int) []api.Place {
 	l, _ := inode.Names(v.bytes(dir))
 	return l
 }
 
-// look is the node of a name in a directory.
 func (v *view) look(dir int, name string) (int, bool) {
 	for _, p := range v.names(dir) {
 		if p.Name == name {
@@ -164,7 +159,6 @@ func (v *view) lead(parts []string) (int, api.Errno) {
 	return at, api.OK
 }
 
-// find is the node to which a path leads.
 func (v *view) find(where string) (int, api.Errno) {
 	parts, e := path.Parts(where)
 	if e != api.OK {
@@ -190,7 +184,6 @@ func (v *view) stands(where string) (int, string, api.Errno) {
 	return dir, parts[last], api.OK
 }
 
-// stat is what is told of a node.
 func (v *view) stat(node int, where string) api.Stat {
 	x := v.nodes[node]
 	s := api.Stat{Path: where, Kind: x.Kind, Mode: x.Mode, Uid: x.Uid, Gid: x.Gid, Time: x.Time, Links: x.Links}
@@ -200,7 +193,6 @@ func (v *view) stat(node int, where string) api.Stat {
 	return s
 }
 
-// list is what is told of all that stands in a directory.
 func (v *view) list(dir int, where string) []api.Stat {
 	var l []api.Stat
 	for _, p := range v.names(dir) {
@@ -238,7 +230,6 @@ func (v *view) wipe(node int) {
 	v.nodes[node].Blocks = nil
 }
 
-// save writes a node's sector.
 func (v *view) save(node int) api.Errno {
 	s, e := inode.Bytes(v.nodes[node])
 	if e == api.OK {
@@ -247,11 +238,11 @@ func (v *view) save(node int) api.Errno {
 	return e
 }
 
-// set gives a node other bytes.
 func (v *view) set(node int, data string) api.Errno {
 	if len(data) > api.MaxFile {
 		return api.ErrLong
 	}
+	// The node's own sectors may be taken again: a file that is written with as many bytes finds room.
 	v.wipe(node)
 	l, ok := v.spare(inode.Sectors(len(data)))
 	if !ok {
@@ -266,7 +257,6 @@ func (v *view) set(node int, data string) api.Errno {
 	return v.save(node)
 }
 
-// name gives a node a name in a directory.
 func (v *view) name(dir int, name string, node int) api.Errno {
 	l := v.names(dir)
 	at := 0
@@ -276,7 +266,6 @@ func (v *view) name(dir int, name string, node int) api.Errno {
 	return v.set(dir, inode.List(slices.Insert(l, at, api.Place{Name: name, Node: node})))
 }
 
-// unname takes a name out of a directory.
 func (v *view) unname(dir int, name string) api.Errno {
 	var rest []api.Place
 	for _, p := range v.names(dir) {
@@ -287,7 +276,6 @@ func (v *view) unname(dir int, name string) api.Errno {
 	return v.set(dir, inode.List(rest))
 }
 
-// create makes something new at a name in a directory.
 func (v *view) create(dir int, name string, x api.Node, data string) api.Errno {
 	node := root + 1
 	for node < len(v.nodes) && v.nodes[node].Kind != api.KindFree {
